@@ -383,10 +383,10 @@ func broken(r *rand.Rand, tokens []string) string {
 	l := slices.Clone(tokens)
 	for range 1 + r.IntN(2) {
 		k := r.IntN(len(l) + 1)
-		any := vocabulary[r.IntN(len(vocabulary))]
+		token := vocabulary[r.IntN(len(vocabulary))]
 		switch kind := r.IntN(6); {
 		case kind == 0 || k == len(l):
-			l = slices.Insert(l, k, any)
+			l = slices.Insert(l, k, token)
 		case kind == 1:
 			l = slices.Delete(l, k, k+1)
 		case kind == 2:
@@ -395,7 +395,7 @@ func broken(r *rand.Rand, tokens []string) string {
 			j := r.IntN(len(l))
 			l[k], l[j] = l[j], l[k]
 		default:
-			l[k] = any
+			l[k] = token
 		}
 	}
 	return strings.Join(l, parts[r.IntN(len(parts))])

@@ -509,7 +509,7 @@ func chained(t *testing.T, between ...string) {
 	means(t, text, expression(tree(operands, found), 0))
 }
 
-// between are all signs that stand between two.
+// signsBetween are all signs that stand between two.
 var signsBetween = slices.Concat(levels...)
 
 func TestSignsBetween(t *testing.T) {
@@ -655,18 +655,22 @@ func TestParenthesesMakeNothing(t *testing.T) {
 }
 
 func TestHowManyAWordIsCalledWith(t *testing.T) {
-	for word, want := range map[string]int{"mulhi": 2, "carry": 2, "select": 3, "word": 1} {
+	for _, x := range []struct {
+		word string
+		kind int
+		many int
+	}{{"mulhi", api.EHigh, 2}, {"carry", api.ECarry, 2}, {"select", api.ESelect, 3}, {"word", api.EWord, 1}} {
 		for _, arg := range []string{"a", "1", "a[0]", "f(1, 2)", "(a + b)", "~a", "a < b", "ror(a, 1)", "select(a, b, c)"} {
 			for n := range 6 {
-				s := word + "(" + strings.Join(slices.Repeat([]string{arg}, n), ", ") + ")"
+				s := x.word + "(" + strings.Join(slices.Repeat([]string{arg}, n), ", ") + ")"
 				switch {
-				case n < want:
+				case n < x.many: // at the parenthesis that ends it
 					meansNot(t, s, api.ErrSyntax, len(s)-1)
-				case n > want:
-					meansNot(t, s, api.ErrSyntax, len(word)+1+want*len(arg)+(want-1)*2)
+				case n > x.many: // at the comma behind the last one
+					meansNot(t, s, api.ErrSyntax, len(x.word)+1+x.many*len(arg)+(x.many-1)*2)
 				default:
-					if x := value(t, s); len(x.Args) != n || kinds[x.Kind] != map[string]string{"mulhi": "high"}[word]+strings.Replace(word, "mulhi", "", 1) {
-						t.Errorf("%s is made %s", s, expression(x, 0))
+					if y := value(t, s); y.Kind != x.kind || len(y.Args) != n {
+						t.Errorf("%s is made %s", s, expression(y, 0))
 					}
 				}
 			}
@@ -906,7 +910,7 @@ func nestedIn(t *testing.T, l []nest, s nest) {
 
 func TestNestsOfKindsMixed(t *testing.T) {
 	r := rand.New(rand.NewPCG(12, 6))
-	any := func(from []nest, n int) []nest {
+	some := func(from []nest, n int) []nest {
 		var l []nest
 		for range n {
 			l = append(l, from[r.IntN(len(from))])
@@ -916,17 +920,17 @@ func TestNestsOfKindsMixed(t *testing.T) {
 	for range 5000 {
 		n := 60 + r.IntN(8)
 		blocks := r.IntN(n)
-		l := any(nestsOfBlocks, blocks)
+		l := some(nestsOfBlocks, blocks)
 		if last := r.IntN(3); last == 0 {
-			l = append(l, any(nestsAtLast, 1)...)
+			l = append(l, some(nestsAtLast, 1)...)
 		} else {
-			first := any(nestsOfValues, 1)[0]
+			first := some(nestsOfValues, 1)[0]
 			if first.open, first.shut = "x = "+first.open, first.shut+";"; first.at >= 0 {
 				first.at += 4
 			}
 			l = append(l, first)
 		}
-		nested(t, append(l, any(nestsOfValues, n-len(l))...), "1")
+		nested(t, append(l, some(nestsOfValues, n-len(l))...), "1")
 	}
 }
 
@@ -964,9 +968,9 @@ func TestWhatOpensNoNest(t *testing.T) {
 	for _, n := range []int{1, 63, 64, 65, 100, 600} {
 		// One behind the other they do not lie in one another.
 		for _, x := range nestsOfValues {
-			means1 := slices.Repeat([]string{x.open + "1" + x.shut}, n)
-			right(t, "fn f() { g("+strings.Join(means1, ", ")+"); }")
-			right(t, "fn f() { x = ("+strings.Join(means1, ") ^ (")+"); }")
+			each := slices.Repeat([]string{x.open + "1" + x.shut}, n)
+			right(t, "fn f() { g("+strings.Join(each, ", ")+"); }")
+			right(t, "fn f() { x = ("+strings.Join(each, ") ^ (")+"); }")
 		}
 		for _, x := range slices.Concat(nestsOfBlocks, nestsAtLast) {
 			within := map[bool]string{true: "", false: "1"}[strings.HasSuffix(x.open, "{")]
